@@ -26,7 +26,7 @@ func filesOf(texts ...string) []impl.File {
 
 // faultTexts writes each fault as the script of the last chapter would.
 func faultTexts(faults []impl.Fault) []string {
-	kinds := map[int]string{impl.FaultBad: "bad", impl.FaultTwice: "twice", impl.FaultUse: "use", impl.FaultSig: "sig"}
+	kinds := map[int]string{impl.FaultBad: "bad", impl.FaultTwice: "twice", impl.FaultUse: "use", impl.FaultSig: "sig", impl.FaultName: "name", impl.FaultType: "type", impl.FaultLarge: "large", impl.FaultCycle: "cycle"}
 	var list []string
 	for _, f := range faults {
 		list = append(list, strings.TrimSpace(f.File+" "+strconv.Itoa(f.Line)+" "+kinds[f.Kind]+" "+f.Name))
