@@ -656,18 +656,8 @@ func checkSameTypes(t *testing.T, p *plainNames, full, to string, renamed []impl
 // TestAllSmallSpots compares all texts of up to three of these lines, beside a file that uses them.
 func TestAllSmallSpots(t *testing.T) {
 	lines := []string{"use B", "use A", "x = y", "y = \\x.(x,y)", "y = {x=x;(y,B.x)}", "z = {y=x;\\x.(y,(x,z))}", "x : I", "x = (A.y,B.y)", "z = \\y.x", "y = 10", "z = (1 y)"}
-	texts := []string{""}
-	for begin, length := 0, 0; length < 3; length++ {
-		end := len(texts)
-		for _, text := range texts[begin:end] {
-			for _, line := range lines {
-				texts = append(texts, text+line+"\n")
-			}
-		}
-		begin = end
-	}
 	count := spotCount{roles: map[int]int{}}
-	for _, text := range texts {
+	for _, text := range upToThree(lines) {
 		files := filesOf("A", text, "B", "use A\ny = \\x.(A.x,x)\nx = {x=A.y;x}")
 		p, spots := plainNamesOf(files), plainPlaced(files)
 		comparePlaces(t, files, p, spots, &count)

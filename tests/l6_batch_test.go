@@ -702,11 +702,8 @@ func compareNames(t *testing.T, files []impl.File, count map[int]int) {
 	}
 }
 
-// TestAllSmallNames compares all texts of up to three of these lines, beside a file that uses them.
-func TestAllSmallNames(t *testing.T) {
-	lines := []string{
-		"use B", "x = y", "y = x", "y = (x,y)", "y = 1", "x = \\y.y", "x = (y 1)", "x = {x=y;z}", "z = (1 1)", "x : I", "y : (a>a)", "z : (b*I)", "x = B.y", "y = (B.z,z)", "z = (x,w)",
-	}
+// upToThree returns all texts of up to three of these lines.
+func upToThree(lines []string) []string {
 	texts := []string{""}
 	for begin, length := 0, 0; length < 3; length++ {
 		end := len(texts)
@@ -717,8 +714,16 @@ func TestAllSmallNames(t *testing.T) {
 		}
 		begin = end
 	}
+	return texts
+}
+
+// TestAllSmallNames compares all texts of up to three of these lines, beside a file that uses them.
+func TestAllSmallNames(t *testing.T) {
+	lines := []string{
+		"use B", "x = y", "y = x", "y = (x,y)", "y = 1", "x = \\y.y", "x = (y 1)", "x = {x=y;z}", "z = (1 1)", "x : I", "y : (a>a)", "z : (b*I)", "x = B.y", "y = (B.z,z)", "z = (x,w)",
+	}
 	count := map[int]int{}
-	for _, text := range texts {
+	for _, text := range upToThree(lines) {
 		compareNames(t, filesOf("A", text, "B", "use A\ny = A.x\nz = 1"), count)
 	}
 	if count[impl.NameOk] < 2000 || count[impl.NameWord] < 1000 || count[impl.NameType] < 200 || count[impl.NameCycle] < 500 || count[impl.NameBlock] < 500 {

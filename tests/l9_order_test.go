@@ -454,18 +454,8 @@ func compareGraph(t *testing.T, files []impl.File, want []impl.Type, count *grap
 func TestAllSmallGraphs(t *testing.T) {
 	lines := []string{"use B", "x = y", "y = x", "y = (z,x)", "z = (B.x,y)", "z = 1", "x = \\y.(y,z)", "x : I", "y : (a>a)", "x = B.w", "z = (y", "use Q"}
 	want := typesOf(t, []string{"I", "(a*a)"})
-	texts := []string{""}
-	for begin, length := 0, 0; length < 3; length++ {
-		end := len(texts)
-		for _, text := range texts[begin:end] {
-			for _, line := range lines {
-				texts = append(texts, text+line+"\n")
-			}
-		}
-		begin = end
-	}
 	var count graphCount
-	for _, text := range texts {
+	for _, text := range upToThree(lines) {
 		compareGraph(t, filesOf("B", "x = A.x\nuse A\ny = x", "A", text), want, &count)
 	}
 	if count.orders < 1000 || count.circles < 150 || count.signedCircles < 50 || count.needs < 1000 || count.unusedNames < 1000 || count.unusedUses < 500 || count.found < 500 {
