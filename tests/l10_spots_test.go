@@ -26,11 +26,16 @@ func spotText(s impl.Spot) string {
 
 // spotTexts joins spots by a comma and a space.
 func spotTexts(spots []impl.Spot) string {
-	var list []string
-	for _, s := range spots {
-		list = append(list, spotText(s))
+	return joined(spots, spotText, ", ")
+}
+
+// joined joins the texts of the elements of a list.
+func joined[T any](list []T, text func(T) string, between string) string {
+	var texts []string
+	for _, x := range list {
+		texts = append(texts, text(x))
 	}
-	return strings.Join(list, ", ")
+	return strings.Join(texts, between)
 }
 
 // unmarked returns files without the marks @ and #, which no line that can be
@@ -215,11 +220,7 @@ func placeOf(p impl.Place) string {
 }
 
 func placeTexts(places []impl.Place) string {
-	var list []string
-	for _, p := range places {
-		list = append(list, placeOf(p))
-	}
-	return strings.Join(list, " ")
+	return joined(places, placeOf, " ")
 }
 
 func TestDefinitionAt(t *testing.T) {
